@@ -1,0 +1,1 @@
+"""Version control of a text in which changes refer to lines."""
