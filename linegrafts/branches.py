@@ -1,9 +1,13 @@
 """A session with changes and branches, from its calls to their answers."""
 
-from linegrafts.calls import APPLY, BRANCH, DELETE, MERGE, REVERT, WRITE
-from linegrafts.calls import encoded_lines, encoded_pairs, named_branches, read_calls
-from linegrafts.operations import NO_BRANCH, Session, apply_change, delete_lines, make_branch
-from linegrafts.operations import merge_branch, revert_change, show_text, write_lines
+from linegrafts.calls import APPLY, APPLY_WITH_REQUIREMENTS, BRANCH, CHANGE, DELETE, EXPLAIN, LINES
+from linegrafts.calls import MERGE, REQUIREMENTS, REVERT, REVERT_WITH_DEPENDENTS, SHOW, WRITE
+from linegrafts.calls import named_branches, read_calls, read_lines, read_pairs
+from linegrafts.operations import NO_BRANCH, Session, apply_change, apply_with_requirements
+from linegrafts.operations import delete_lines, make_branch, merge_branch, revert_change
+from linegrafts.operations import revert_with_dependents, write_lines
+from linegrafts.reports import blame_text, describe_change, explain_line, list_lines
+from linegrafts.reports import list_requirements, show_text
 
 
 def answer_call(session, call):
@@ -15,17 +19,31 @@ def answer_call(session, call):
     if call.operation == BRANCH:
         return make_branch(session, plain[0])
     if call.operation == WRITE:
-        return write_lines(session, plain[0], encoded_lines(plain[1], call.row))
+        return write_lines(session, plain[0], read_lines(plain[1], call.row))
     if call.operation == DELETE:
-        return delete_lines(session, plain[0], encoded_pairs(call.row))
+        return delete_lines(session, plain[0], read_pairs(call.row))
     if call.operation == APPLY:
         return apply_change(session, plain[0], plain[1])
     if call.operation == MERGE:
         return merge_branch(session, plain[0], plain[1])
     if call.operation == REVERT:
         return revert_change(session, plain[0], plain[1])
-    # What is left is show.
-    return show_text(session, plain[0])
+    if call.operation == SHOW:
+        return show_text(session, plain[0])
+    if call.operation == LINES:
+        return list_lines(session, plain[0])
+    if call.operation == CHANGE:
+        return describe_change(session, plain[0])
+    if call.operation == REQUIREMENTS:
+        return list_requirements(session, plain[0])
+    if call.operation == APPLY_WITH_REQUIREMENTS:
+        return apply_with_requirements(session, plain[0], plain[1])
+    if call.operation == REVERT_WITH_DEPENDENTS:
+        return revert_with_dependents(session, plain[0], plain[1])
+    if call.operation == EXPLAIN:
+        return explain_line(session, plain[0], plain[1], plain[2])
+    # What is left is blame.
+    return blame_text(session, plain[0])
 
 
 def answers(calls):

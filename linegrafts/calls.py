@@ -6,12 +6,19 @@ DELETE = 2
 APPLY = 3
 MERGE = 4
 REVERT = 5
+SHOW = 6
+LINES = 7
+CHANGE = 8
+REQUIREMENTS = 9
+APPLY_WITH_REQUIREMENTS = 10
+REVERT_WITH_DEPENDENTS = 11
+EXPLAIN = 12
 
-# By operation, the last being show: how many numbers a call has behind its own,
+# By operation, the last being blame: how many numbers a call has behind its own,
 # its row aside.
-PLAIN_COUNTS = (1, 2, 1, 2, 2, 2, 1)
+PLAIN_COUNTS = (1, 2, 1, 2, 2, 2, 1, 1, 1, 1, 2, 2, 3, 1)
 # By operation: how many of these, from the front, are branches.
-BRANCH_COUNTS = (1, 1, 1, 1, 2, 1, 1)
+BRANCH_COUNTS = (1, 1, 1, 1, 2, 1, 1, 1, 0, 0, 1, 1, 1, 1)
 
 
 class Call:
@@ -46,7 +53,7 @@ def named_branches(call):
     return call.plain[:BRANCH_COUNTS[call.operation]]
 
 
-def encoded_lines(count, row):
+def read_lines(count, row):
     """Give the bytes of the lines that stand one behind another in a row."""
     lines = []
     place = 0
@@ -57,6 +64,6 @@ def encoded_lines(count, row):
     return lines
 
 
-def encoded_pairs(row):
+def read_pairs(row):
     """Give the lines of which a row has the change and the number."""
     return [(row[place], row[place + 1]) for place in range(0, len(row), 2)]

@@ -50,3 +50,15 @@ def dependencies(change):
         positions.append(hunk.after)
     # The start and the end, alone below 0, belong to no change.
     return sorted(set([position[0] for position in positions if position[0] >= 0]))
+
+
+def requirements(changes, number):
+    """Give the change and all that it needs, in however many steps, in increasing order."""
+    needed = {number: True}
+    # A change depends on earlier ones alone: on the way down, each that is needed
+    # is known to be so before its turn comes.
+    for earlier in range(number, -1, -1):
+        if earlier in needed:
+            for dependency in dependencies(changes[earlier]):
+                needed[dependency] = True
+    return sorted(needed.keys())

@@ -1,9 +1,9 @@
-"""The operations on a session; each gives its answer as a list of whole numbers.
+"""The operations that change a session; each gives its answer as a list of whole numbers.
 
 The branches that are handed in here exist.
 """
 
-from linegrafts.changes import Change, dependencies
+from linegrafts.changes import Change, dependencies, requirements
 from linegrafts.content import find_content, line_texts, visible_lines
 from linegrafts.differences import difference
 
@@ -118,13 +118,24 @@ def revert_change(session, branch, change):
     return [len(session.branches[branch])]
 
 
-def show_text(session, branch):
-    """Answer the call show."""
-    content = find_content(session.changes, session.branches[branch])
-    if content.conflicts:
-        return [CONFLICTS, len(content.conflicts)]
-    shown = [len(content.order)]
-    for line in line_texts(session.changes, content.order):
-        shown.append(len(line))
-        shown.extend(line)
-    return shown
+def apply_with_requirements(session, branch, change):
+    """Answer the call apply_with_requirements."""
+    members = session.branches[branch]
+    if change >= len(session.changes):
+        return [NO_CHANGE_OR_LINE]
+    if change in members:
+        return [NOTHING_NEW]
+    needed = requirements(session.changes, change)
+    added = [number for number in needed if number not in members]
+    session.branches[branch] = sorted(members + added)
+    return [len(added)] + added
+
+
+def revert_with_dependents(session, branch, change):
+    """Answer the call revert_with_dependents."""
+    members = session.branches[branch]
+    if change not in members:
+        return [NOTHING_NEW]
+    removed = [number for number in members if change in requirements(session.changes, number)]
+    session.branches[branch] = [number for number in members if number not in removed]
+    return [len(removed)] + removed

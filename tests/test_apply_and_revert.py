@@ -1,10 +1,6 @@
 import unittest
 
-from sessions import apply, ask, branch, delete, last, merge, revert, show, shown, write
-
-# Branch 1 is empty. Branch 0 has 0 (a), 1 (b behind a), 2 (c behind b), 3 (x between a and b).
-CHAIN = [branch(0), write(0, "a"), write(0, "a", "b"), write(0, "a", "b", "c"),
-         write(0, "a", "x", "b", "c")]
+from sessions import CHAIN, apply, ask, branch, delete, last, merge, revert, show, shown, write
 
 
 class Apply(unittest.TestCase):

@@ -1,12 +1,6 @@
 import unittest
 
-from linegrafts.changes import Change, Hunk
-from linegrafts.content import find_content
 from sessions import CONFLICT, ask, branch, delete, last, merge, revert, show, shown, write
-
-
-def order(changes, members):
-    return find_content(changes, members).order
 
 
 class Show(unittest.TestCase):
@@ -64,33 +58,6 @@ class Conflicts(unittest.TestCase):
     def test_start_and_end_do_not_join_lines(self):
         calls = [branch(0), write(0, "a"), write(0, "a", "b"), write(1, "c"), write(1, "d", "c")]
         self.assertEqual(last(*calls, merge(0, 1), show(0)), [-5, 4])
-
-
-class Order(unittest.TestCase):
-    """Lines in conflict stand in no text: their order is asked of the content itself."""
-
-    def test_by_change_and_then_by_number(self):
-        changes = [Change([Hunk((-1, 0), (-2, 0), [[97], [98]])], []),
-                   Change([Hunk((-1, 0), (-2, 0), [[99], [100]])], [])]
-        self.assertEqual(order(changes, [0, 1]), [(0, 0), (0, 1), (1, 0), (1, 1)])
-
-    def test_a_preceded_line_waits(self):
-        changes = [Change([Hunk((-1, 0), (-2, 0), [[97]])], []),
-                   Change([Hunk((-1, 0), (-2, 0), [[98], [99]])], []),
-                   Change([Hunk((-1, 0), (0, 0), [[100]])], [])]
-        self.assertEqual(order(changes, [0, 1, 2]), [(1, 0), (1, 1), (2, 0), (0, 0)])
-        self.assertEqual(order(changes, [0, 2]), [(2, 0), (0, 0)])
-
-    def test_a_line_is_free_as_soon_as_those_ahead_of_it_stand(self):
-        changes = [Change([Hunk((-1, 0), (-2, 0), [[97], [98]])], []),
-                   Change([Hunk((-1, 0), (0, 0), [[99]])], []),
-                   Change([Hunk((-1, 0), (-2, 0), [[100]])], [])]
-        self.assertEqual(order(changes, [0, 1, 2]), [(1, 0), (0, 0), (0, 1), (2, 0)])
-
-    def test_deleted_lines_count_for_the_order_alone(self):
-        changes = [Change([Hunk((-1, 0), (-2, 0), [[97], [98]])], [(0, 0)]),
-                   Change([Hunk((-1, 0), (0, 0), [[99]])], [])]
-        self.assertEqual(order(changes, [0, 1]), [(1, 0), (0, 1)])
 
 
 if __name__ == "__main__":
